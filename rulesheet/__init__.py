@@ -1,0 +1,1 @@
+"""Rulesheet: cells that tell of other cells."""
