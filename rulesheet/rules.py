@@ -56,6 +56,11 @@ def outer_first(rule):
     return found
 
 
+def all_references(rule):
+    """The references in a rule, however deep they stand."""
+    return [reference for one in outer_first(rule) for reference in references(one)]
+
+
 def deep(rule):
     """How deep a rule is: 1 where no rule stands within it."""
     depth = 0

@@ -14,6 +14,17 @@ INTERFACE = {
         "needed": ["rule"],
         "shifted": ["rule", "down", "right"],
     },
+    "sheet.py": {"Sheet": None},
+    "reckon.py": {"told": ["rule", "known"], "reckoned": ["sheet"], "ring": ["sheet"]},
+    "touch.py": {"touched": ["sheet", "place"]},
+}
+SHEET_METHODS = {
+    "__init__": ["self", "high", "wide"],
+    "places": ["self"],
+    "rule": ["self", "place"],
+    "put": ["self", "place", "rule"],
+    "copied": ["self", "source", "target"],
+    "filled": ["self", "source", "one", "two"],
 }
 LIBRARY = ("heapq", "math", "itertools", "collections")
 # Whatever these could reach would be chance, a clock or a file.
@@ -47,6 +58,14 @@ class PackageTest(unittest.TestCase):
             for word, arguments in listed.items():
                 self.assertIn(word, defined)
                 self.assertEqual(defined[word], arguments)
+
+    def test_the_methods_are_defined_in_the_class_itself(self):
+        for node in ast.parse(text_of("sheet.py")).body:
+            if isinstance(node, ast.ClassDef) and node.name == "Sheet":
+                methods = [part for part in node.body if isinstance(part, ast.FunctionDef)]
+                defined = {part.name: [word.arg for word in part.args.args] for part in methods}
+                for name, arguments in SHEET_METHODS.items():
+                    self.assertEqual(defined.get(name), arguments)
 
     def test_no_clock_chance_or_files(self):
         for name in files():
